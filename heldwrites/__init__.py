@@ -1,0 +1,1 @@
+"""One program's writes gathered into lines, and what others can see of them."""
