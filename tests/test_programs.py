@@ -55,7 +55,8 @@ class Programs(unittest.TestCase):
         for op in (
             (), ("write",), ("put",), ("read",), ("pass", 0), ("pass", None), ("write", 0, 0), ("pass", ()),
             ["write", 0], ["pass"], "pass", "write", ("Write", 0), ("writes", 0), (b"write", 0), (b"pass",),
-            (0, "write"), (None,), (None, 0), (("pass",),), {"pass": 0}, None, True, 0, (Strange(),), (Strange(), 0), Strange(),
+            (0, "write"), (None,), (None, 0), (("pass",),), {"pass": 0}, None, True, 0,
+            (Strange(),), (Strange(), 0), Strange(),
         ):
             self.assert_row_bad(row(op))
 
