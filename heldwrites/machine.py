@@ -2,7 +2,7 @@
 
 from heldwrites.errors import BadStep
 from heldwrites.moves import after_step, first_state, is_step, operation_at, stamp_read, steps_from
-from heldwrites.rules import check_program
+from heldwrites.rules import STAMPING_WORDS, check_program
 
 
 def states_along(rule, program, run):
@@ -21,11 +21,21 @@ def states_along(rule, program, run):
     return states
 
 
-def rows_done(rule, program, run):
-    """Tuples (row, op, state) for each row that the run does, with the state before it."""
-    states = states_along(rule, program, run)
+def rows_along(program, states, run):
+    """Tuples (row, op, state) for each row that the run does, with the state before it; states are those along it."""
     moments = [state for state, step in zip(states, run) if step[0] == "do"]
     return [(state[0], operation_at(program, state[0]), state) for state in moments]
+
+
+def given_along(program, states, run):
+    """A tuple (row, place) for each stamp that the run gives, in order; states are those along it."""
+    done = rows_along(program, states, run)
+    return [(row, op[1]) for row, op, _ in done if op[0] in STAMPING_WORDS]
+
+
+def rows_done(rule, program, run):
+    """Tuples (row, op, state) for each row that the run does; BadRule, BadProgram, BadStep."""
+    return rows_along(program, states_along(rule, program, run), run)
 
 
 def possible_steps(rule, program, run):
@@ -46,5 +56,4 @@ def told_by(rule, program, run):
 
 def given_by(rule, program, run):
     """A tuple (row, place) for each stamp that the run gives, in order; BadRule, BadProgram, BadStep."""
-    done = rows_done(rule, program, run)
-    return [(row, op[1]) for row, op, _ in done if op[0] in ("write", "put")]
+    return given_along(program, states_along(rule, program, run), run)

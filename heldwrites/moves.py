@@ -85,14 +85,19 @@ def sends_of(rule, cells):
     return [marked]
 
 
+def rows_behind(program, row):
+    """The rows that the row can go on to, ascending."""
+    nexts = program[row][2]
+    if not nexts:
+        return (STOPPED,)
+    return nexts
+
+
 def steps_from(rule, program, state):
     """The steps that can be taken in the state, ascending."""
     steps = []
     if can_do(rule, program, state):
-        nexts = program[state[0]][2]
-        if not nexts:
-            nexts = (STOPPED,)
-        steps = [("do", row) for row in nexts]
+        steps = [("do", row) for row in rows_behind(program, state[0])]
     for line, cells in state[3]:
         for offsets in sends_of(rule, cells):
             steps.append(("send", line, offsets))

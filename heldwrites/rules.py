@@ -15,6 +15,8 @@ ACTING = 7
 SENDS_WORDS = ("whole", "parts", "filled")
 LOOK_WORDS = ("into", "past", "first")
 PLACE_WORDS = ("write", "put", "read")
+# The operations that give a stamp.
+STAMPING_WORDS = ("write", "put")
 
 
 def is_integer(thing):
