@@ -12,6 +12,9 @@ from heldwrites.questions import places_asked
 from heldwrites.rules import ACTING, WIDTH, line_of, offset_of, places_of
 
 LOST = -1
+# What memory tells of the tracked places when it shows the question: at stages before the last one nothing is recent
+# at the place of other.
+SHOWING = {"falls": (0,), "ahead": (0, 1)}
 
 
 class Watch:
@@ -92,7 +95,8 @@ def after_put(watch, state, place, recent):
     row, stage, memory, held, order = state
     if place not in watch.places:
         return state
-    if watch.word == "acts" and order:
+    # A put acts at once, ahead of the stamps that still wait.
+    if order:
         return None
     if watch.word in ("elder", "falls"):
         held = held_with_old_cell(watch.rule, held, place)
@@ -110,13 +114,8 @@ def unless_shown(watch, state):
     """The watched state, None if its memory shows the question."""
     if state is None:
         return None
-    _, stage, memory, _, _ = state
-    told = [memory[place] for place in watch.places]
-    if watch.word == "falls":
-        shown = told == [0]
-    else:
-        shown = watch.word == "ahead" and stage == 2 and told == [0, 1]
-    return None if shown else state
+    told = tuple([state[2][place] for place in watch.places])
+    return None if told == SHOWING.get(watch.word) else state
 
 
 def after_row(watch, state, stage):

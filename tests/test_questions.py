@@ -89,7 +89,8 @@ class Questions(unittest.TestCase):
         for thing in (
             ("elder",), ("elder", 2, 2), ("elder", 2, None), ("falls",), ("falls", 0, 0), ("falls", 0, 4),
             ("ahead",), ("ahead", 0), ("ahead", 0, 4, 0), ("ahead", 0, 4, 4), ("acts", "acts"), ("ahead", (0, 4)),
-            ("elder", (2,)),
+            ("elder", (2,)), ("elder", 2, 2, 2), ("falls", 0, 0, 0), ("falls", 0, 1, 2, 3), ("ahead", 0, 4, 0, 4),
+            ("elder", 2, None, None, None, None), ("acts", 0, 0, 0),
         ):
             self.assert_bad(thing)
 
