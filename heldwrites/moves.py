@@ -127,7 +127,8 @@ def held_with(held, line, cells):
     kept = [entry for entry in held if entry[0] != line]
     if marked_offsets(cells):
         kept.append((line, cells))
-    return tuple(sorted(kept, key=lambda entry: entry[0]))
+    # No line stands here twice, so that cells are never compared.
+    return tuple(sorted(kept))
 
 
 def fresh_cells(rule, memory, line):

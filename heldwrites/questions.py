@@ -91,16 +91,18 @@ def shows_ahead(places, before, states):
     return any([state[2][first] < before.get(state[2][second], 0) for state in states])
 
 
-def shows_acts(rule, given, states):
-    """Whether the acts of some state are not a beginning of all stamps given to acting places."""
+def shows_acts(rule, given, acts):
+    """Whether the acts are not a beginning of all stamps given to acting places, in order."""
+    # Acts only grow: if those of the last state are such a beginning, all before them were.
     stamps = tuple([stamp for stamp, (_, place) in enumerate(given, start=1) if place in rule[ACTING]])
-    return any([state[4] != stamps[:len(state[4])] for state in states])
+    return acts != stamps[:len(acts)]
 
 
-def run_shows(rule, program, question, run):
-    """Whether the run shows the question; BadRule, BadProgram, BadQuestion, BadStep."""
-    check_question(rule, program, question)
-    states = states_along(rule, program, run)
+def shows_along(rule, program, question, states, run, acts):
+    """Whether the run shows the question; states are those along it, acts those of the last one.
+
+    What the states themselves tell of acts is not looked at.
+    """
     word = question[0]
     if word == "elder":
         return shows_elder(rule, question[1], rows_along(program, states, run))
@@ -108,6 +110,13 @@ def run_shows(rule, program, question, run):
         return shows_falls(question[1], states)
     given = given_along(program, states, run)
     if word == "acts":
-        return shows_acts(rule, given, states)
+        return shows_acts(rule, given, acts)
     before = stamps_before(question[1], question[2], given)
     return shows_ahead(places_asked(rule, program, question), before, states)
+
+
+def run_shows(rule, program, question, run):
+    """Whether the run shows the question; BadRule, BadProgram, BadQuestion, BadStep."""
+    check_question(rule, program, question)
+    states = states_along(rule, program, run)
+    return shows_along(rule, program, question, states, run, states[-1][4])

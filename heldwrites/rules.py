@@ -17,6 +17,7 @@ LOOK_WORDS = ("into", "past", "first")
 PLACE_WORDS = ("write", "put", "read")
 # The operations that give a stamp.
 STAMPING_WORDS = ("write", "put")
+MOST_ROWS = 8
 
 
 def is_integer(thing):
@@ -97,18 +98,25 @@ def is_operation(rule, thing):
     return is_word_of(thing[0], PLACE_WORDS) and is_integer_within(thing[1], 0, places_of(rule) - 1)
 
 
+def is_fenced_operation(rule, thing):
+    """Whether the object is a tuple (op, fences), the first two parts of a row."""
+    if not is_tuple_of(thing, 2, 2):
+        return False
+    op, fences = thing
+    return is_operation(rule, op) and are_numbers_below(fences, len(rule[KINDS]))
+
+
 def is_row(rule, thing, rows):
     """Whether the object is a row of a program of the rule with this many rows."""
     if not is_tuple_of(thing, 3, 3):
         return False
     op, fences, nexts = thing
-    fences_fit = are_numbers_below(fences, len(rule[KINDS]))
-    return is_operation(rule, op) and fences_fit and are_numbers_below(nexts, rows)
+    return is_fenced_operation(rule, (op, fences)) and are_numbers_below(nexts, rows)
 
 
 def has_rows(rule, thing):
     """Whether the object is a program of the rule, which surely is a rule."""
-    return is_tuple_of(thing, 1, 8) and all([is_row(rule, row, len(thing)) for row in thing])
+    return is_tuple_of(thing, 1, MOST_ROWS) and all([is_row(rule, row, len(thing)) for row in thing])
 
 
 def check_rule(rule):

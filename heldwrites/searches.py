@@ -129,7 +129,7 @@ def steps_to_showing(atlas, paths, came):
             piece = [step, *sends_at_once(atlas.watch, paths[node[0]][0])]
         pieces.append(piece)
         mark = came[node]
-    return [step for piece in reversed(pieces) for step in piece]
+    return [step for piece in pieces[::-1] for step in piece]
 
 
 def run_found(atlas, paths):

@@ -42,7 +42,7 @@ def view_of(watch, state):
 def watched_with(watch, view):
     """The watched state that has the view."""
     row, stage, lines, told, order = view
-    memory = [0] * places_of(watch.rule)
+    memory = [0] * places_of(watch.quiet_rule)
     if watch.word == "falls":
         memory[watch.places[0]] = 1
     for place, recent in zip(watch.places, told):
@@ -54,8 +54,8 @@ def watched_with(watch, view):
 def code_at(watch, lines, place):
     """The code of a tracked place, EMPTY if its line is not open."""
     for line, codes in zip(watch.lines, lines):
-        if line == line_of(watch.rule, place) and codes:
-            return codes[offset_of(watch.rule, place)]
+        if line == line_of(watch.quiet_rule, place) and codes:
+            return codes[offset_of(watch.quiet_rule, place)]
     return EMPTY
 
 
@@ -70,7 +70,7 @@ def is_code(watch, place, thing):
         return False
     if thing in (1, 3) and (watch.word == "acts" or place not in watch.places):
         return False
-    if watch.rule[SENDS] == "filled":
+    if watch.quiet_rule[SENDS] == "filled":
         return thing != EMPTY
     return thing not in (0, 1)
 
@@ -81,7 +81,7 @@ def are_codes(watch, line, thing):
         return False
     if not thing:
         return True
-    width = watch.rule[WIDTH]
+    width = watch.quiet_rule[WIDTH]
     if len(thing) != width:
         return False
     fit = all([is_code(watch, line * width + offset, code) for offset, code in enumerate(thing)])
@@ -94,7 +94,7 @@ def are_lines(watch, thing):
         return False
     if not all([are_codes(watch, line, codes) for line, codes in zip(watch.lines, thing)]):
         return False
-    return len([codes for codes in thing if codes]) <= watch.rule[ROOM]
+    return len([codes for codes in thing if codes]) <= watch.quiet_rule[ROOM]
 
 
 def is_memory(watch, thing):
@@ -133,7 +133,7 @@ def is_view(watch, thing):
     if not isinstance(thing, tuple) or len(thing) != 5:
         return False
     row, stage, lines, memory, order = thing
-    if not is_integer_within(row, -1, len(watch.program) - 1) or not is_integer_within(stage, 0, 2):
+    if not is_integer_within(row, -1, len(watch.rows) - 1) or not is_integer_within(stage, 0, 2):
         return False
     if not are_lines(watch, lines) or not is_memory(watch, memory):
         return False

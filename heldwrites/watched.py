@@ -24,8 +24,8 @@ class Watch:
         self.places = places_asked(rule, program, question)
         self.lines = tuple(sorted(set([line_of(rule, place) for place in self.places])))
         # No place acts here: what acted is told by the order alone.
-        self.rule = (*rule[:ACTING], ())
-        self.program = program
+        self.quiet_rule = (*rule[:ACTING], ())
+        self.rows = program
         self.question = question
         self.word = question[0]
 
@@ -33,7 +33,7 @@ class Watch:
 def first_watched(watch):
     """The watched state at the beginning: the stamp 0 of memory is the last one, and no less than itself."""
     first = 1 if watch.word in ("elder", "falls") else 0
-    memory = [first if place in watch.places else 0 for place in range(places_of(watch.rule))]
+    memory = [first if place in watch.places else 0 for place in range(places_of(watch.quiet_rule))]
     return (0, 0, tuple(memory), (), ())
 
 
@@ -81,8 +81,8 @@ def held_with_old_cell(rule, held, place):
 def after_write(watch, state, place, recent):
     """The watched state after a write has given the place a stamp, recent or not."""
     row, stage, memory, held, order = state
-    if line_of(watch.rule, place) in watch.lines:
-        held = held_after_write(watch.rule, memory, held, place, recent)
+    if line_of(watch.quiet_rule, place) in watch.lines:
+        held = held_after_write(watch.quiet_rule, memory, held, place, recent)
     if place in watch.places and watch.word == "elder":
         memory = with_entry(memory, place, 0)
     if place in watch.places and watch.word == "acts":
@@ -99,13 +99,13 @@ def after_put(watch, state, place, recent):
     if order:
         return None
     if watch.word in ("elder", "falls"):
-        held = held_with_old_cell(watch.rule, held, place)
+        held = held_with_old_cell(watch.quiet_rule, held, place)
     return (row, stage, with_entry(memory, place, recent), held, order)
 
 
 def after_read(watch, state, place):
     """The watched state after a read of the place by its row."""
-    if watch.word == "elder" and watch.question[1] == state[0] and not stamp_read(watch.rule, state, place):
+    if watch.word == "elder" and watch.question[1] == state[0] and not stamp_read(watch.quiet_rule, state, place):
         return None
     return state
 
@@ -121,7 +121,7 @@ def unless_shown(watch, state):
 def after_row(watch, state, stage):
     """The watched state after its row was done and led to the stage; the row stays, going on is left to others."""
     row, before, memory, held, order = state
-    op = operation_at(watch.program, row)
+    op = operation_at(watch.rows, row)
     if op[0] == "pass":
         return state
     place = op[1]
@@ -136,9 +136,9 @@ def after_row(watch, state, stage):
 
 def after_sent(watch, state, line, offsets):
     """The watched state after these cells of a tracked line were sent."""
-    row, stage, memory, held, order = after_send(watch.rule, state, line, offsets)
+    row, stage, memory, held, order = after_send(watch.quiet_rule, state, line, offsets)
     if watch.word == "acts":
-        places = [line * watch.rule[WIDTH] + offset for offset in offsets]
+        places = [line * watch.quiet_rule[WIDTH] + offset for offset in offsets]
         acted = tuple([place for place in places if place in watch.places])
         if order[:len(acted)] != acted:
             return None
@@ -148,7 +148,7 @@ def after_sent(watch, state, line, offsets):
 
 def dos_watched(watch, state):
     """The watched states behind the row of this one, by the stages that it can lead to; [] if it cannot be done."""
-    if not can_do(watch.rule, watch.program, state):
+    if not can_do(watch.quiet_rule, watch.rows, state):
         return []
     return [after_row(watch, state, stage) for stage in stages_behind(watch, state[0], state[1])]
 
@@ -157,16 +157,16 @@ def sends_watched(watch, state):
     """Pairs (step, watched state behind it) for each send of a tracked line that can be taken."""
     pairs = []
     for line, cells in state[3]:
-        for offsets in sends_of(watch.rule, cells):
+        for offsets in sends_of(watch.quiet_rule, cells):
             pairs.append((("send", line, offsets), after_sent(watch, state, line, offsets)))
     return pairs
 
 
 def sends_at_once(watch, row):
     """The sends right behind the row: one if it writes to a line that is not tracked, else none."""
-    op = operation_at(watch.program, row)
-    if op[0] != "write" or line_of(watch.rule, op[1]) in watch.lines:
+    op = operation_at(watch.rows, row)
+    if op[0] != "write" or line_of(watch.quiet_rule, op[1]) in watch.lines:
         return []
-    memory = (0,) * places_of(watch.rule)
-    held = held_after_write(watch.rule, memory, (), op[1], 0)
-    return [("send", line, sends_of(watch.rule, cells)[0]) for line, cells in held]
+    memory = (0,) * places_of(watch.quiet_rule)
+    held = held_after_write(watch.quiet_rule, memory, (), op[1], 0)
+    return [("send", line, sends_of(watch.quiet_rule, cells)[0]) for line, cells in held]

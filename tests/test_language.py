@@ -82,3 +82,46 @@ class Language(unittest.TestCase):
                 self.assertNotIsInstance(node.value, (float, complex), name)
                 if isinstance(node.value, str):
                     self.assertIsNone(BARRED_WORDS.search(node.value), f"{name}: {node.value}")
+
+
+class BesideAClassThatCompares(unittest.TestCase):
+    """What Machine's ==, len, [place] and properties ask of the whole package."""
+
+    def calls_of(self, *names):
+        for name, tree in trees():
+            for node in nodes_of(tree, ast.Call):
+                if isinstance(node.func, ast.Name) and node.func.id in names:
+                    yield name, node
+
+    def test_no_generators(self):
+        for name, tree in trees():
+            self.assertEqual(nodes_of(tree, ast.GeneratorExp, ast.Yield, ast.YieldFrom), [], name)
+
+    def test_what_is_reversed_or_sorted(self):
+        for name, node in self.calls_of("reversed"):
+            self.assertIsInstance(node.args[0], ast.Call, name)
+            self.assertIn(node.args[0].func.id, ("list", "tuple", "sorted", "range"), name)
+        for name, node in self.calls_of("sorted", "min", "max"):
+            for keyword in node.keywords:
+                self.assertNotIsInstance(keyword.value, ast.Lambda, name)
+        for name, tree in trees():
+            self.assertNotIn("sort", {node.attr for node in nodes_of(tree, ast.Attribute)}, name)
+
+    def test_no_other_class_stores_an_attribute_with_the_name_of_a_property_or_method(self):
+        methods, stored = set(), set()
+        for _, tree in trees():
+            for found in nodes_of(tree, ast.ClassDef):
+                methods |= {node.name for node in nodes_of(found, ast.FunctionDef)}
+            for node in nodes_of(tree, ast.Attribute):
+                if isinstance(node.ctx, ast.Store):
+                    stored.add(node.attr)
+        self.assertEqual(methods & stored, set())
+        self.assertIn("rule", methods)
+        self.assertIn("_steps", stored)
+
+    def test_what_has_items_is_not_iterated_over(self):
+        for name, tree in trees():
+            for found in nodes_of(tree, ast.ClassDef):
+                methods = {node.name: node for node in nodes_of(found, ast.FunctionDef)}
+                if "__getitem__" in methods:
+                    self.assertIsInstance(methods["__iter__"].body[0], ast.Raise, name)
